@@ -14,3 +14,11 @@ func Account(n int) bool { return Below(n, api.MaxAcc) }
 
 // Balance tells whether n may be one.
 func Balance(n int) bool { return Within(n, 0, api.MaxBal) }
+
+// Next is the block behind now, if there is one.
+func Next(now int) (block int, ok bool) {
+	if now >= api.MaxBlock {
+		return 0, false
+	}
+	return now + 1, true
+}

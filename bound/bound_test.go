@@ -34,3 +34,14 @@ func TestEdges(t *testing.T) {
 		}
 	}
 }
+
+func TestNextEndsAtTheLastBlock(t *testing.T) {
+	for _, x := range []struct {
+		now, block int
+		ok         bool
+	}{{0, 1, true}, {41, 42, true}, {api.MaxBlock - 1, api.MaxBlock, true}, {api.MaxBlock, 0, false}, {1<<63 - 1, 0, false}} {
+		if block, ok := bound.Next(x.now); block != x.block || ok != x.ok {
+			t.Errorf("Next(%d): %d, %v", x.now, block, ok)
+		}
+	}
+}
