@@ -228,9 +228,4 @@ func TestP31GridsAreApart(t *testing.T) {
 	if _, ok := h.Get(1, 1); ok || h.Len() != 0 {
 		t.Error("one grid's cell is another one's")
 	}
-	var zero grid.Grid[int]
-	zero.Set(1, 1, 8)
-	if v, ok := zero.Get(1, 1); v != 8 || !ok {
-		t.Error("a grid that New did not make:", v, ok)
-	}
 }

@@ -288,12 +288,3 @@ func TestP83NilLedger(t *testing.T) {
 		t.Error(l.Held(1))
 	}
 }
-
-func TestP83PreThatNewDidNotMake(t *testing.T) {
-	var p, q pre.Pre
-	q.Want(api.Hash{1})
-	note(t, &p, rich(t), 1, remark(1))
-	if q.Wanted(api.Hash{1}) != 1 || p.Wanted(api.Hash{1}) != 0 {
-		t.Error("what is wanted:", p.Wanted(api.Hash{1}), q.Wanted(api.Hash{1}))
-	}
-}
